@@ -1,8 +1,10 @@
 """The calls: one object, and what each call on it answers."""
 
-from callstrings.facts import FUNCTION, NODE
+from callstrings.compare import find_arrows, find_dead, find_missing, find_parting
+from callstrings.facts import BINDER, NODE
 from callstrings.programs import NotAProgram, read_program
-from callstrings.rules import grow_table
+from callstrings.rules import grow_table, grow_table_without_strings
+from callstrings.runs import Run, finish
 
 # The refusals.
 NO_PROGRAM = -1
@@ -13,6 +15,7 @@ WRONG_KIND = -5
 TOO_LARGE = -7
 
 MOST_LABELS = 2
+LARGEST_INPUT = 9
 
 
 class Subject:
@@ -25,11 +28,14 @@ class Subject:
         self.program = program
         self.grown = {}
 
-    # Kept until the program changes, as a line may ask for one table many times.
     def find_table(self):
-        if self.most not in self.grown:
-            self.grown[self.most] = grow_table(self.program, self.most)
-        return self.grown[self.most]
+        return self.find_table_by(self.most)
+
+    # Kept until the program changes, as a line may ask for one table many times.
+    def find_table_by(self, most):
+        if most not in self.grown:
+            self.grown[most] = grow_table(self.program, most)
+        return self.grown[most]
 
 
 def answer_program(subject, text):
@@ -91,17 +97,7 @@ def answer_arrows(subject):
     table = subject.find_table()
     if table.too_large():
         return [TOO_LARGE]
-    return tell_pairs(find_arrows(subject.program, table))
-
-
-def find_arrows(program, table):
-    arrows = []
-    for site, kind in enumerate(program.kinds):
-        if kind == "call":
-            for what, label in table.sorts_in_any_string(NODE, program.parts[site][0]):
-                if what == FUNCTION:
-                    arrows.append((site, label))
-    return arrows
+    return tell_pairs(find_arrows(table))
 
 
 def answer_bodies(subject, label):
@@ -118,6 +114,61 @@ def answer_bodies(subject, label):
         told.append(len(string))
         told.extend(string)
     return told
+
+
+def answer_ladder(subject):
+    tables = [subject.find_table_by(most) for most in range(MOST_LABELS + 1)]
+    if any([table.too_large() for table in tables]):
+        return [TOO_LARGE]
+    plain = grow_table_without_strings(subject.program)
+    return [len(find_arrows(table)) for table in [plain] + tables]
+
+
+def answer_parts(subject, most):
+    if not 1 <= most <= MOST_LABELS:
+        return [OUT_OF_RANGE]
+    coarse = subject.find_table_by(most - 1)
+    fine = subject.find_table_by(most)
+    if coarse.too_large() or fine.too_large():
+        return [TOO_LARGE]
+    place = find_parting(coarse, fine)
+    if place is None:
+        return [0]
+    return [1, place[0], place[1]]
+
+
+def answer_dead(subject):
+    table = subject.find_table()
+    if table.too_large():
+        return [TOO_LARGE]
+    dead = find_dead(table)
+    return [len(dead)] + dead
+
+
+def answer_check(subject, given):
+    if not 0 <= given <= LARGEST_INPUT:
+        return [OUT_OF_RANGE]
+    table = subject.find_table()
+    if table.too_large():
+        return [TOO_LARGE]
+    run = Run(subject.program, given)
+    # However the run ends, what came about until then counts.
+    finish(run)
+    missing = find_missing(table, run)
+    if missing is None:
+        return [1]
+    return [0, missing]
+
+
+def answer_name(subject, label):
+    if not subject.program.has_node(label):
+        return [NO_NODE]
+    if subject.program.kinds[label] not in ("fun", "let"):
+        return [WRONG_KIND]
+    table = subject.find_table()
+    if table.too_large():
+        return [TOO_LARGE]
+    return tell_pairs(table.sorts_in_any_string(BINDER, label))
 
 
 def answer_size(subject):

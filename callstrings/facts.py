@@ -16,6 +16,11 @@ REFERENCE = 3
 MOST_FACTS = 400
 
 
+# The string of a body that's run from this site, cut to at most so many labels.
+def string_within(site, string, most):
+    return ((site,) + string)[:most]
+
+
 # A cell is a place in a string: (group, label, string). A sort is (what it is,
 # label, string in which it was made). A new fact waits until it has gone along
 # its cell's links and to its watchers, so that the rules never call themselves.

@@ -15,13 +15,15 @@ class NotAProgram(Exception):
     pass
 
 
-# All lists are by label. A node's home is the innermost fun in whose body it
-# stands, None outside of all; outer tells for each fun the binders that its
-# body needs from outside.
+# All lists are by label; numbers tells what a number is, binders where a name is
+# bound, both None at other nodes. A node's home is the innermost fun in whose
+# body it stands, None outside of all; outer tells for each fun the binders that
+# its body needs from outside.
 class Program:
     def __init__(self):
         self.kinds = []
         self.parts = []
+        self.numbers = []
         self.binders = []
         self.homes = []
         self.outer = {}
@@ -31,6 +33,9 @@ class Program:
 
     def is_kind(self, label, kind):
         return self.has_node(label) and self.kinds[label] == kind
+
+    def labels_of(self, kinds):
+        return [label for label, kind in enumerate(self.kinds) if kind in kinds]
 
     def count_kind(self, kind):
         return self.kinds.count(kind)
@@ -107,6 +112,7 @@ class Reader:
             program.parts[self.around[-1]].append(label)
         program.kinds.append(kind)
         program.parts.append([])
+        program.numbers.append(None)
         program.binders.append(None)
         program.homes.append(self.home())
         self.names.append(None)
@@ -142,7 +148,8 @@ class Reader:
     def read_leaf(self):
         word = self.take_word()
         if is_number(word):
-            self.add_node("number")
+            label = self.add_node("number")
+            self.program.numbers[label] = int(word)
         elif word == "in":
             self.add_node("in")
         elif is_name(word):

@@ -1,7 +1,7 @@
 """Rules: what each node that's come to in a string needs, and the tables grown by them."""
 
 from callstrings.facts import BINDER, CONTENTS, FIRST, FUNCTION, NODE, NUMBER, PAIR, REFERENCE, SECOND
-from callstrings.facts import Table
+from callstrings.facts import Table, string_within
 
 
 def part_cells(table, label, string):
@@ -70,14 +70,18 @@ def settle_home(table, home, string):
             settle(table, label, string)
 
 
+def come_to_body(table, fun, string):
+    if table.mark_come_to(fun, string):
+        settle_home(table, fun, string)
+
+
 def react_call(table, label, string, sort):
     if sort[0] != FUNCTION:
         return
     fun = sort[1]
     made = sort[2]
-    inner = ((label,) + string)[:table.most]
-    if table.mark_come_to(fun, inner):
-        settle_home(table, fun, inner)
+    inner = string_within(label, string, table.most)
+    come_to_body(table, fun, inner)
     table.link(part_cells(table, label, string)[1], (BINDER, fun, inner))
     for binder in table.program.outer[fun]:
         table.link((BINDER, binder, made), (BINDER, binder, inner))
@@ -123,11 +127,26 @@ def pass_on(table, cell, sort):
         react(table, label, string, sort)
 
 
+def pass_on_next(table):
+    fact = table.waiting.pop()
+    pass_on(table, fact[0], fact[1])
+
+
 # A table that's too large is left unfinished, as it could only grow further.
 def grow_table(program, most):
     table = Table(program, most)
     settle_home(table, None, ())
     while table.waiting and not table.too_large():
-        fact = table.waiting.pop()
-        pass_on(table, fact[0], fact[1])
+        pass_on_next(table)
+    return table
+
+
+# The table without strings: all bodies count as come to, and it's never too large.
+def grow_table_without_strings(program):
+    table = Table(program, 0)
+    settle_home(table, None, ())
+    for fun in program.labels_of(("fun",)):
+        come_to_body(table, fun, ())
+    while table.waiting:
+        pass_on_next(table)
     return table

@@ -1,7 +1,8 @@
 """The interface: a list of numbers that tells calls on a new object, answered call by call."""
 
-from callstrings.calls import Subject, answer_arrows, answer_at, answer_bodies, answer_facts
-from callstrings.calls import answer_program, answer_size, answer_strings, answer_values
+from callstrings.calls import Subject, answer_arrows, answer_at, answer_bodies, answer_check, answer_dead
+from callstrings.calls import answer_facts, answer_ladder, answer_name, answer_parts, answer_program
+from callstrings.calls import answer_size, answer_strings, answer_values
 
 
 class Cursor:
@@ -41,9 +42,17 @@ def answer_next(subject, cursor):
         return answer_arrows(subject)
     if call == 6:
         return answer_bodies(subject, cursor.take())
-    if call == 12:
-        return answer_size(subject)
-    raise NotImplementedError("call")
+    if call == 7:
+        return answer_ladder(subject)
+    if call == 8:
+        return answer_parts(subject, cursor.take())
+    if call == 9:
+        return answer_dead(subject)
+    if call == 10:
+        return answer_check(subject, cursor.take())
+    if call == 11:
+        return answer_name(subject, cursor.take())
+    return answer_size(subject)
 
 
 def answers(calls):
